@@ -1,0 +1,1 @@
+"""Keptcalls: functions whose answers are kept, over things that change."""

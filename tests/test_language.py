@@ -1,0 +1,100 @@
+"""The rules of the language that are easily seen; the others are for the reader."""
+
+import ast
+import pathlib
+import re
+import unittest
+
+FOLDER = pathlib.Path(__file__).resolve().parent.parent / "keptcalls"
+FILES = sorted(path for path in FOLDER.rglob("*") if "__pycache__" not in path.parts and path.is_file())
+BUILTINS = set("""len range enumerate zip min max sum abs sorted reversed int str bool list tuple dict set isinstance ord
+    repr any all divmod pow Exception ValueError TypeError KeyError IndexError LookupError iter next map property
+    staticmethod classmethod super NotImplemented""".split())
+METHODS = set("""append clear copy count endswith extend find get index insert isalnum isalpha isdigit islower isspace
+    isupper items join keys ljust lower lstrip partition pop remove replace reverse rfind rjust rpartition rsplit rstrip
+    setdefault split splitlines startswith strip update upper values zfill bit_length""".split())
+BARRED = set("""typing enum Enum namedtuple dataclass overload contextmanager abstractmethod ABC Protocol Generic register
+    elements open input law mro eval exec compile globals locals vars dir id hash sys os""".split())
+MODULE_LEVEL = (ast.ImportFrom, ast.FunctionDef, ast.ClassDef, ast.Assign, ast.Expr)
+DECORATORS = ("property", "staticmethod", "classmethod")
+
+
+def nodes(kind):
+    for path in FILES:
+        for node in ast.walk(ast.parse(path.read_text())):
+            if isinstance(node, kind):
+                yield path, node
+
+
+def defined(tree):
+    for node in tree.body:
+        if isinstance(node, (ast.FunctionDef, ast.ClassDef)):
+            yield node.name
+        if isinstance(node, ast.Assign):
+            yield from (target.id for target in node.targets)
+
+
+class TestLanguage(unittest.TestCase):
+    def test_files(self):
+        self.assertTrue(FILES)
+        for path in FILES:
+            text = path.read_text()
+            self.assertRegex(path.name, "^[a-z0-9_]+[.]py$")
+            self.assertRegex(text, "\\A[ -~\n]*\\Z", path)
+            self.assertLess(len(text.splitlines()), 400)
+            self.assertLessEqual(max(len(line) for line in text.splitlines()), 120)
+            self.assertNotIn("%", text)
+
+    def test_module_level(self):
+        for path in FILES:
+            for at, node in enumerate(ast.parse(path.read_text()).body):
+                self.assertIsInstance(node, MODULE_LEVEL, path)
+                if isinstance(node, ast.Expr):
+                    self.assertEqual((at, type(node.value.value)), (0, str))
+
+    def test_imports(self):
+        for path, node in nodes((ast.Import, ast.ImportFrom)):
+            self.assertIsInstance(node, ast.ImportFrom, path)
+            self.assertEqual(node.level, 0)
+            self.assertRegex(node.module, "^keptcalls[.][a-z]+$")
+            source = FOLDER / (node.module.split(".")[1] + ".py")
+            for name in node.names:
+                self.assertIn(name.name, list(defined(ast.parse(source.read_text()))))
+                self.assertIsNone(name.asname)
+
+    def test_functions(self):
+        for path, node in nodes(ast.FunctionDef):
+            self.assertLessEqual(node.end_lineno - node.lineno + 1, 40, node.name)
+            for decorator in node.decorator_list:
+                self.assertIn(ast.unparse(decorator).split(".")[-1], DECORATORS + ("setter",))
+
+    def test_builtins_and_names(self):
+        import builtins
+        for path, node in nodes((ast.Name, ast.arg, ast.FunctionDef)):
+            name = getattr(node, "id", None) or getattr(node, "arg", None) or node.name
+            self.assertNotIn(name, BARRED, path)
+            if hasattr(builtins, name):
+                self.assertIn(name, BUILTINS, path)
+                self.assertTrue(isinstance(node, ast.Name) and isinstance(node.ctx, ast.Load), (path, name))
+
+    def test_words(self):
+        for path in FILES:
+            for word in re.findall("[A-Za-z_]+", path.read_text()):
+                self.assertNotIn(word, ("_wall", "_WallAttr", "typing", "enum", "dataclass", "contextmanager"))
+
+    def test_methods_of_builtin_values(self):
+        for path, node in nodes(ast.Call):
+            if isinstance(node.func, ast.Attribute):
+                self.assertIn(node.func.attr, METHODS, path)
+
+    def test_statements_and_expressions(self):
+        barred = (ast.AsyncFunctionDef, ast.Div, ast.GeneratorExp, ast.Global, ast.Lambda)
+        for path, node in nodes(barred):
+            self.assertIsInstance(node, ast.Lambda, path)
+            self.assertEqual(len(node.args.args), 1)
+        for path, node in nodes(ast.Constant):
+            self.assertNotIsInstance(node.value, (float, complex), path)
+        for path, node in nodes(ast.Compare):
+            for operator, side in zip(node.ops, node.comparators):
+                if isinstance(operator, (ast.Is, ast.IsNot)):
+                    self.assertIn(ast.unparse(side), ("None", "True", "False"))
