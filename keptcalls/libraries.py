@@ -69,9 +69,9 @@ def parameter_sorts(function):
     return variables[:parameters]
 
 
-def is_ascending(numbers):
-    """Whether each integer of a tuple is greater than the one ahead of it."""
-    return all([low < high for low, high in zip(numbers, numbers[1:])])
+def is_ascending(members):
+    """Whether each member of a tuple, an integer or a tuple of integers, is greater than the one ahead of it."""
+    return all([low < high for low, high in zip(members, members[1:])])
 
 
 def _are_kinds(thing):

@@ -1,6 +1,6 @@
 """Users of a library: their slots, their deeds and their histories."""
 
-from keptcalls.errors import NoSlots
+from keptcalls.errors import NoHistory, NoSlots
 from keptcalls.libraries import check_library, is_integer, is_tuple, parameter_sorts
 
 MOST_SLOTS = 2
@@ -26,6 +26,12 @@ def is_history(library, slots, thing):
     if not (isinstance(thing, list) and len(thing) <= MOST_DEEDS):
         return False
     return all([is_deed(library, slots, deed) for deed in thing])
+
+
+def check_history(library, slots, history):
+    """Raise NoLibrary for what is no library, then NoSlots for no slots of it, then NoHistory for no history."""
+    if not is_history(library, slots, history):
+        raise NoHistory("this is no history of a user with these slots")
 
 
 def is_deed(library, slots, thing):

@@ -16,6 +16,7 @@ METHODS = set("""append clear copy count endswith extend find get index insert i
 BARRED = set("""typing enum Enum namedtuple dataclass overload contextmanager abstractmethod ABC Protocol Generic register
     elements open input law mro eval exec compile globals locals vars dir id hash sys os""".split())
 MODULE_LEVEL = (ast.ImportFrom, ast.FunctionDef, ast.ClassDef, ast.Assign, ast.Expr)
+DUNDERS = ("__init__", "__eq__", "__repr__", "__str__", "__len__")
 DECORATORS = ("property", "staticmethod", "classmethod")
 
 
@@ -43,7 +44,9 @@ class TestLanguage(unittest.TestCase):
             self.assertRegex(text, "\\A[ -~\n]*\\Z", path)
             self.assertLess(len(text.splitlines()), 400)
             self.assertLessEqual(max(len(line) for line in text.splitlines()), 120)
-            self.assertNotIn("%", text)
+            for node in ast.walk(ast.parse(text)):
+                if isinstance(node, ast.Constant) and isinstance(node.value, str):
+                    self.assertNotIn("%", node.value)
 
     def test_module_level(self):
         for path in FILES:
@@ -73,7 +76,7 @@ class TestLanguage(unittest.TestCase):
         for path, node in nodes((ast.Name, ast.arg, ast.FunctionDef)):
             name = getattr(node, "id", None) or getattr(node, "arg", None) or node.name
             self.assertNotIn(name, BARRED, path)
-            if hasattr(builtins, name):
+            if name in dir(builtins) and name != "_" and not (isinstance(node, ast.FunctionDef) and name in DUNDERS):
                 self.assertIn(name, BUILTINS, path)
                 self.assertTrue(isinstance(node, ast.Name) and isinstance(node.ctx, ast.Load), (path, name))
 
@@ -82,10 +85,40 @@ class TestLanguage(unittest.TestCase):
             for word in re.findall("[A-Za-z_]+", path.read_text()):
                 self.assertNotIn(word, ("_wall", "_WallAttr", "typing", "enum", "dataclass", "contextmanager"))
 
-    def test_methods_of_builtin_values(self):
+    def test_methods(self):
+        own = {member.name for path, node in nodes(ast.ClassDef) for member in node.body
+               if isinstance(member, ast.FunctionDef)}
+        self.assertEqual(own & METHODS, set())
         for path, node in nodes(ast.Call):
             if isinstance(node.func, ast.Attribute):
-                self.assertIn(node.func.attr, METHODS, path)
+                self.assertIn(node.func.attr, METHODS | own, path)
+
+    def test_methods_and_attributes_have_different_names(self):
+        own = {member.name for path, node in nodes(ast.ClassDef) for member in node.body
+               if isinstance(member, ast.FunctionDef)}
+        for path, node in nodes(ast.Attribute):
+            self.assertNotIn(node.attr, BARRED, path)
+            if isinstance(node.ctx, ast.Store):
+                self.assertNotIn(node.attr, own | METHODS, path)
+
+    def test_names_of_imports_and_classes_mean_nothing_else(self):
+        for path in FILES:
+            tree = ast.parse(path.read_text())
+            taken = {node.name for node in tree.body if isinstance(node, ast.ClassDef)}
+            taken |= {name.name for node in tree.body if isinstance(node, ast.ImportFrom) for name in node.names}
+            for node in ast.walk(tree):
+                if isinstance(node, ast.arg):
+                    self.assertNotIn(node.arg, taken, path)
+                if isinstance(node, ast.Name) and isinstance(node.ctx, ast.Store):
+                    self.assertNotIn(node.id, taken, path)
+
+    def test_imports_go_one_way(self):
+        found = {path.stem: {node.module.split(".")[1] for node in ast.parse(path.read_text()).body
+                             if isinstance(node, ast.ImportFrom)} for path in FILES}
+        while found:
+            last = [name for name, others in found.items() if not others & set(found)]
+            self.assertTrue(last, found)
+            found = {name: others for name, others in found.items() if name not in last}
 
     def test_statements_and_expressions(self):
         barred = (ast.AsyncFunctionDef, ast.Div, ast.GeneratorExp, ast.Global, ast.Lambda)

@@ -1,0 +1,131 @@
+"""What the document says that holds, as far as it speaks of told and compare."""
+
+import itertools
+import unittest
+
+from keptcalls.comparing import compare
+from keptcalls.rooms import told
+from keptcalls.users import deeds
+from tests import drawn
+from tests.samples import BOXES, COUNTER, PAIR, call, choice_with, marks, plain
+
+HELD = ("thing", "shared", 0, 1, ())
+SAFE = (None, None, None, HELD, HELD)
+
+
+def called_by(library, history):
+    """The functions that a history may call, directly or not."""
+    found = {deed[1] for deed in history if deed[0] == "call"}
+    while True:
+        more = {row[2] for f in found for row in library[2][f][3] if row[0] == "call"} - found
+        if not more:
+            return found
+        found |= more
+
+
+def is_apart(library, slots, history, choice):
+    one, other = told(library, slots, history, plain(library))[0], told(library, slots, history, choice)[0]
+    return one[:-1] == other[:-1] and one[-1] != other[-1]
+
+
+class TestPlain(unittest.TestCase):
+    def test_all_tells_the_same_and_no_call_is_a_hit(self):
+        for seed, (library, slots, choice) in enumerate(drawn.cases(0, 100)):
+            history = drawn.history_of(seed, library, slots, 60)
+            tellings, hits = told(library, slots, history, plain(library))
+            self.assertEqual(hits, [0] * len(history))
+            self.assertEqual(told(library, slots, history[:20], plain(library)), (tellings[:20], hits[:20]))
+            self.assertNotEqual(compare(library, slots, plain(library), 20)[0], "apart")
+
+
+class TestApart(unittest.TestCase):
+    def found(self, first, many):
+        for library, slots, choice in drawn.cases(first, many):
+            answer = compare(library, slots, choice, 40)
+            if answer[0] == "apart":
+                yield library, slots, choice, answer[1]
+
+    def test_for_each_choice_with_the_same_settings_of_the_functions_that_are_called(self):
+        count = 0
+        for seed, (library, slots, choice, history) in enumerate(self.found(3000, 400)):
+            self.assertIs(is_apart(library, slots, history, choice), True)
+            calls = called_by(library, history)
+            for other in range(5):
+                drawn_one = drawn.choice_of(100 * seed + other, library, 5)
+                mixed = tuple(choice[f] if f in calls else drawn_one[f] for f in range(len(choice)))
+                count += mixed != choice
+                self.assertIs(is_apart(library, slots, history, mixed), True)
+                self.assertNotEqual(compare(library, slots, mixed, 40)[0], "safe")
+        self.assertGreater(count, 20)
+
+    def test_with_one_slot_more_a_shortest_one_is_no_longer(self):
+        count = 0
+        for library, slots, choice, history in self.found(3000, 400):
+            for kind in range(len(library[1])):
+                if len(slots) < 2:
+                    more = compare(library, slots + (kind,), choice, 120)
+                    if more[0] != "full":
+                        count += 1
+                        self.assertEqual(more[0], "apart")
+                        self.assertLessEqual(len(more[1]), len(history))
+        self.assertGreater(count, 5)
+
+    def test_a_slot_more_may_make_it_shorter_or_apart_at_all(self):
+        larger = (None, None, None, ("thing", "shared", 0, 2, ()), HELD)
+        self.assertEqual(compare(PAIR, (0,), larger, 400)[0], "safe")
+        word, history, layers = compare(PAIR, (0, 0), larger, 400)
+        self.assertEqual((word, len(history)), ("apart", 6))
+
+
+class TestSafe(unittest.TestCase):
+    def words(self, library, slots, *choices, limit=400):
+        return [compare(library, slots, choice, limit)[0] for choice in choices]
+
+    def test_the_settings_of_the_document_safe_with_any_errors_sizes_and_more_clears(self):
+        for errors, size in itertools.product((0, 1), (1, 2, 3)):
+            choice = (None, None, ("thing", "shared", errors, size, ((0, 0),)))
+            self.assertEqual(self.words(COUNTER, (0,), choice), ["safe"])
+            choice = (None, None, ("content", "copied", errors, size, ()))
+            self.assertEqual(self.words(COUNTER, (0,), choice), ["safe"])
+        # Function 2 of BOXES reads field 0 of kind 0, function 1 field 1 of kind 1.
+        for clears in (((0, 0),), ((0, 0), (1, 0)), ((0, 0), (1, 1)), ((0, 0), (1, 0), (1, 1))):
+            choice = choice_with(BOXES, f2=marks("thing", "shared", 1, 2, clears))
+            self.assertIn(self.words(BOXES, (1, 0), choice, limit=60)[0], ("safe", "full"))
+
+    def test_safe_choices_have_no_order(self):
+        self.assertEqual(self.words(PAIR, (0,), SAFE, limit=60), ["safe"])
+        # A function made plain, either one; a clear more, which is no harm with the other one.
+        self.assertEqual(self.words(PAIR, (0,), SAFE[:3] + (None, HELD), SAFE[:3] + (HELD, None), plain(PAIR)),
+                         ["apart", "apart", "safe"])
+        more = ("thing", "shared", 0, 1, ((0, 1),))
+        self.assertEqual(self.words(PAIR, (0,), SAFE[:3] + (more, HELD), SAFE[:3] + (HELD, more)), ["apart", "safe"])
+        # A larger room, a function more exported.
+        self.assertEqual(self.words(PAIR, (0, 0), SAFE, SAFE[:3] + (("thing", "shared", 0, 2, ()), HELD)), ["safe", "apart"])
+        for f in (3, 4):
+            self.assertEqual(self.words(PAIR[:3] + ((0, 1, 2, f),), (0,), SAFE), ["apart"])
+
+    def test_the_neighbours_of_the_document(self):
+        found = []
+        for f in (3, 4):
+            for settings in (None, ("content",) + HELD[1:], ("name",) + HELD[1:], ("thing", "copied", 0, 1, ()),
+                             ("thing", "shared", 1, 1, ()), ("thing", "shared", 0, 2, ()), ("thing", "shared", 0, 1, ((0, 0),)),
+                             ("thing", "shared", 0, 1, ((0, 1),))):
+                found.append(SAFE[:f] + (settings,) + SAFE[f + 1:])
+        self.assertEqual(self.words(PAIR, (0,), *found, limit=60),
+                         ["apart", "apart", "safe", "safe", "safe", "safe", "safe", "apart", "apart", "apart", "safe", "safe",
+                          "safe", "safe", "safe", "safe"])
+
+    def test_a_safe_choice_tells_the_same_whatever_the_history_is(self):
+        count = 0
+        for seed, (library, slots, choice) in enumerate(drawn.cases(5000, 150)):
+            if deeds(library, slots) and compare(library, slots, choice, 40)[0] == "safe":
+                for more in range(3):
+                    history = drawn.history_of(1000 * seed + more, library, slots, 60)
+                    count += sum(told(library, slots, history, choice)[1])
+                    self.assertEqual(told(library, slots, history, choice)[0], told(library, slots, history, plain(library))[0])
+        self.assertGreater(count, 100)
+
+    def test_the_best_of_the_document(self):
+        answer = compare(COUNTER, (0,), (None, None, HELD), 60)
+        self.assertEqual((answer[0], len(answer[1])), ("apart", 4))
+        self.assertEqual(self.words(COUNTER, (0,), (None, None, ("thing", "shared", 0, 1, ((0, 0),))), limit=60), ["safe"])
