@@ -33,7 +33,7 @@ class User:
             telling = None
         else:
             telling = self._act_on_call(deed)
-        self._remove_the_dead()
+        self.remove_the_dead()
         return telling
 
     def _act_on_call(self, deed):
@@ -46,7 +46,8 @@ class User:
             self.held[k] = outcome[1]
         return outcome[1] if outcome[0] == "number" else None
 
-    def _remove_the_dead(self):
+    def remove_the_dead(self):
+        """Remove all things that are not alive."""
         names = met(self.library[1], had(self.held, self.rooms), self.things)
         self.things = {name: self.things[name] for name in self.things if name in names}
 

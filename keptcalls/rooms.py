@@ -34,6 +34,11 @@ def is_settings(kinds, thing):
     return is_integer(errors, 0, 1) and is_integer(size, 1, LARGEST_SIZE) and _are_clears(kinds, clears)
 
 
+def all_fields(kinds):
+    """All (kind, field) of a library with these kinds, ascending."""
+    return [(kind, i) for kind, fields in enumerate(kinds) for i in range(len(fields))]
+
+
 def told(library, slots, history, choice):
     """What the deeds of a history tell, and the number of hits in each of them."""
     check_history(library, slots, history)
@@ -49,8 +54,8 @@ def told(library, slots, history, choice):
 
 
 def _are_clears(kinds, thing):
-    fields = sum([len(kind) for kind in kinds])
-    return is_tuple(thing, 0, fields) and all([_is_place(kinds, one) for one in thing]) and is_ascending(thing)
+    most = len(all_fields(kinds))
+    return is_tuple(thing, 0, most) and all([_is_place(kinds, one) for one in thing]) and is_ascending(thing)
 
 
 def _is_place(kinds, thing):

@@ -117,6 +117,8 @@ def _instruction(draw, modulus, kinds, heads, f, at, many):
         s = draw.randrange(len(sorts))
         return (word, s, one(sorts[s]))
     t = one(*things)
+    if t is None:
+        return None
     if word == "same":
         return _filled((word, one(None), t, one(sorts[t])))
     if word == "call":
@@ -172,3 +174,38 @@ def cases(first, many, most=3, key=None):
         library = library_of(seed)
         found.append((library, slots_of(seed, library), choice_of(seed, library, most, key)))
     return found
+
+
+def wild_library(seed):
+    """A library of functions of any instructions, with more ways, and with less sense, than those above."""
+    draw = random.Random(f"wild {seed}")
+    while True:
+        kinds = draw.choice(KINDS)
+        modulus = draw.choice([2, 3, 4])
+        sorts = [None] + list(range(len(kinds))) * 2
+        heads = []
+        for f in range(draw.randint(1, 4)):
+            variables = tuple(draw.choice(sorts) for _ in range(draw.randint(2, 6)))
+            things = [sort for sort in variables if sort is not None]
+            heads.append((draw.randint(0, min(2, len(variables))), variables, draw.choice(list(variables) + 2 * things)))
+        functions = tuple(head + (_wild_body(draw, modulus, kinds, heads, f),) for f, head in enumerate(heads))
+        library = (modulus, kinds, functions, tuple(f for f in range(len(functions)) if draw.random() < 0.9))
+        if is_library(library):
+            return library
+
+
+def _wild_body(draw, modulus, kinds, heads, f):
+    """A body with about as many ways as instructions, most of which end in a "return"."""
+    parameters, variables, result = heads[f]
+    body = []
+    many = draw.randint(0, 8)
+    while len(body) < many:
+        if draw.random() < 0.3:
+            row = ("if", draw.randrange(len(variables)), draw.randint(len(body) + 1, many))
+        elif draw.random() < 0.2:
+            row = ("return", draw.choice([v for v, sort in enumerate(variables) if sort == result]))
+        else:
+            row = _instruction(draw, modulus, kinds, heads, f, len(body), many)
+        if row is not None:
+            body.append(row)
+    return tuple(body)

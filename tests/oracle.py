@@ -32,6 +32,7 @@ class Teller:
         self.there = []
         self.rooms = [[] for function in self.functions]
         self.hits = 0
+        self.hits_of = [0 for function in self.functions]
 
     def sorts(self, f):
         return self.functions[f][1][:self.functions[f][0]]
@@ -51,9 +52,18 @@ class Teller:
                     telling = result
             except Failure as failure:
                 telling = ("error", failure.number)
+        self.bury()
+        return telling, self.hits
+
+    def give(self, f, settings):
+        """Give function f other settings, as a keeper does."""
+        self.choice = self.choice[:f] + (settings,) + self.choice[f + 1:]
+        self.rooms[f] = []
+        self.bury()
+
+    def bury(self):
         alive = self.alive()
         self.there = [thing for thing in self.there if thing in alive]
-        return telling, self.hits
 
     def alive(self):
         """The alive things, in the order in which renumbering meets them."""
@@ -107,6 +117,7 @@ class Teller:
         for entry in self.rooms[f]:
             if entry.key == asked:
                 self.hits += 1
+                self.hits_of[f] += 1
                 if entry.result[0] == "error":
                     raise Failure(entry.result[1])
                 return self.copy(entry.result[1]) if result == "copied" else entry.result[1]

@@ -5,20 +5,30 @@ import inspect
 import itertools
 import unittest
 
+from keptcalls.cheapest import best, cheapest_clears
 from keptcalls.comparing import compare, shows
-from keptcalls.errors import NoChoice, NoHistory, NoLibrary, NoLimit, NoSlots, NoWorld
+from keptcalls.errors import (NoChoice, NoFunction, NoHistory, NoLibrary, NoLimit, NoMenu, NoNumber, NoPrices, NoSlots,
+                              NoWorld)
 from keptcalls.rooms import is_choice, told
+from keptcalls.texts import looks, passes
+from keptcalls.turned import most_hits, neighbours
 from keptcalls.worlds import renumbered, worlds
 from tests.samples import BOXES, COUNTER, NO_LIBRARIES, NO_SLOTS, call, choice_with, marks
 
 HISTORY = [call(0, k=0), call(2, 0), call(1, 0), call(2, 0)]
 CHOICE = (None, None, ("thing", "shared", 0, 1, ()))
 WORLD = ((3,), ((3, 0, (1,)),), ((), (), (((3,), (3,), ("number", 1)),)))
-RIGHT = {"library": COUNTER, "slots": (0,), "history": HISTORY, "choice": CHOICE, "limit": 400, "world": WORLD}
-ERRORS = {"library": NoLibrary, "slots": NoSlots, "history": NoHistory, "choice": NoChoice, "limit": NoLimit, "world": NoWorld}
+MENU = [[(None, 0)], [(None, 1)], [(CHOICE[2], 2), (None, 3)]]
+RIGHT = {"library": COUNTER, "slots": (0,), "history": HISTORY, "choice": CHOICE, "limit": 400, "world": WORLD, "menu": MENU,
+         "f": 2, "prices": {(0, 0): 5}, "many": 4}
+ERRORS = {"library": NoLibrary, "slots": NoSlots, "history": NoHistory, "choice": NoChoice, "limit": NoLimit, "world": NoWorld,
+          "menu": NoMenu, "f": NoFunction, "prices": NoPrices, "many": NoNumber}
 NAMES = {told: ["library", "slots", "history", "choice"], worlds: ["library", "slots", "history", "choice"],
          renumbered: ["library", "slots", "choice", "world"], compare: ["library", "slots", "choice", "limit"],
-         shows: ["library", "slots", "choice", "limit", "thing"], is_choice: ["library", "thing"]}
+         shows: ["library", "slots", "choice", "limit", "thing"], is_choice: ["library", "thing"],
+         looks: ["library"], passes: ["library", "choice"], best: ["library", "slots", "menu", "limit"],
+         cheapest_clears: ["library", "slots", "choice", "f", "prices", "limit"],
+         neighbours: ["library", "slots", "choice", "limit"], most_hits: ["library", "slots", "choice", "many", "limit"]}
 # What is none of the kind, also for any other argument that is right.
 NONE = {
     "library": NO_LIBRARIES, "slots": NO_SLOTS,
@@ -32,6 +42,12 @@ NONE = {
     "limit": [None, True, False, 0, -1, 401, 10 ** 20, -10 ** 20, "", "1", (), (1,), [1], {1: 1}],
     "world": [None, True, False, 0, "", (), [], {}, list(WORLD), WORLD[:2], WORLD + ((),), (None, (), ()),
               ((3,), (), WORLD[2]), ((3,), WORLD[1], ((), ())), ((None,), (), WORLD[2])],
+    "menu": [None, True, 0, "", (), [], {}, tuple(MENU), MENU[:2], MENU + [[(None, 0)]], [[], [], []], MENU[:2] + [[None]],
+             MENU[:2] + [((None, 0),)], MENU[:2] + [[(None, 100)]], MENU[:2] + [[(None, True)]], MENU[:2] + [[(None, 0)] * 2]],
+    "f": [None, True, False, 0, 1, 3, -1, 10 ** 20, "2", (), (2,), [2], {}],
+    "prices": [None, True, 0, "", (), [], {}, {(0, 0): 100}, {(0, 0): -1}, {(0, 0): True}, {(0, 0): None}, {(0, 1): 5}, {0: 5},
+               {(0, 0): 5, (0, 1): 5}, {(0, 0): 5, (1, 0): 5}, [((0, 0), 5)]],
+    "many": [None, True, False, -1, 7, 10 ** 20, "", "4", (), (4,), [4], {}],
 }
 
 
@@ -42,6 +58,15 @@ def right(function, **others):
     if function is shows:
         some["thing"] = compare(COUNTER, (0,), CHOICE, 400)
     return {**some, **others}
+
+
+def made_in(value):
+    """All lists and dicts in a value, itself among them, as often as they are there."""
+    found = [value] if isinstance(value, (list, dict)) else []
+    members = list(value.values()) if isinstance(value, dict) else value if isinstance(value, (list, tuple)) else ()
+    for member in members:
+        found += made_in(member)
+    return found
 
 
 class TestArguments(unittest.TestCase):
@@ -59,7 +84,8 @@ class TestArguments(unittest.TestCase):
             self.assertEqual(list(inspect.signature(function).parameters), names)
             some = right(function)
             told_so = function(*[some[name] for name in names])
-            for order in itertools.permutations(names):
+            orders = list(itertools.permutations(names))
+            for order in orders[:3] + orders[-20:]:
                 self.assertEqual(function(**{name: some[name] for name in order}), told_so)
 
     def test_one_that_is_none(self):
@@ -91,6 +117,16 @@ class TestArguments(unittest.TestCase):
             self.refuses(NoChoice, function, choice=choice[:3])
             self.refuses(NoSlots, function, slots=(1,), choice=choice)
             self.refuses(NoChoice, function, library=BOXES, **({"history": [call(0, k=None)]} if function in (told, worlds) else {}))
+        for function in (passes, neighbours, cheapest_clears, most_hits):
+            self.refuses(NoChoice, function, choice=choice)
+            self.refuses(NoChoice, function, choice=choice[:3])
+            self.refuses(NoChoice, function, library=BOXES)
+        for function in (neighbours, cheapest_clears, most_hits):
+            self.refuses(NoSlots, function, slots=(1,), choice=choice)
+        self.refuses(NoSlots, best, slots=(1,), menu=[])
+        self.refuses(NoMenu, best, library=BOXES)
+        self.refuses(NoPrices, cheapest_clears, library=BOXES, choice=choice_with(BOXES, f2=marks("thing")))
+        self.refuses(NoFunction, cheapest_clears, choice=choice_with(COUNTER, f1=marks("thing")))
         self.refuses(NoHistory, told, slots=())
         self.refuses(NoHistory, worlds, slots=(), choice=choice)
         self.refuses(NoWorld, renumbered, slots=())
@@ -113,19 +149,19 @@ class TestArguments(unittest.TestCase):
         self.assertEqual((first, both), wanted)
 
     def test_lists_and_dicts_are_new(self):
-        for function in (told, worlds, renumbered, compare):
+        for function, names in NAMES.items():
             for choice in (CHOICE, (None, None, ("thing", "shared", 0, 1, ((0, 0),)))):
                 for limit in (2, 400):
-                    some = right(function, choice=choice, **({"limit": limit} if function is compare else {}))
+                    others = {name: value for name, value in (("choice", choice), ("limit", limit)) if name in names}
+                    some = right(function, **others)
                     one, other = function(**some), function(**some)
                     self.assertEqual(one, other)
                     wanted = copy.deepcopy(other)
-                    made = [value for value in one + other if isinstance(value, (list, dict))]
+                    made = made_in([one, other])[1:]
                     self.assertEqual(len({id(value) for value in made}), len(made))
-                    self.assertFalse([value for value in made for given in some.values() if value is given])
-                    for value in one:
-                        if isinstance(value, (list, dict)):
-                            value.clear()
+                    self.assertFalse([value for value in made for given in made_in(list(some.values())) if value is given])
+                    for value in made_in(one):
+                        value.clear()
                     self.assertEqual(other, wanted)
                     self.assertEqual(function(**some), wanted)
 

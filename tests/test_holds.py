@@ -1,12 +1,17 @@
-"""What the document says that holds, as far as it speaks of told and compare."""
+"""What the document says that holds, over told, compare, passes and keepers, for drawn libraries."""
 
 import itertools
+import random
 import unittest
 
 from keptcalls.comparing import compare
+from keptcalls.keepers import Keeper, trial
 from keptcalls.rooms import told
+from keptcalls.texts import passes
+from keptcalls.turned import most_hits, neighbours
 from keptcalls.users import deeds
 from tests import drawn
+from tests.test_passes import choices_that_pass
 from tests.samples import BOXES, COUNTER, PAIR, call, choice_with, marks, plain
 
 HELD = ("thing", "shared", 0, 1, ())
@@ -36,6 +41,12 @@ class TestPlain(unittest.TestCase):
             self.assertEqual(hits, [0] * len(history))
             self.assertEqual(told(library, slots, history[:20], plain(library)), (tellings[:20], hits[:20]))
             self.assertNotEqual(compare(library, slots, plain(library), 20)[0], "apart")
+            self.assertEqual(passes(library, plain(library)), [])
+            keeper = Keeper(library, slots, choice=plain(library))
+            self.assertEqual((keeper.do(*history), keeper.hits()), (tellings, [0] * 5))
+            self.assertEqual([keeper[f] for f in range(5)], [[]] * 5)
+            most = most_hits(library, slots, plain(library), 2, 60)
+            self.assertIn(most and most[0], (None, 0))
 
 
 class TestApart(unittest.TestCase):
@@ -49,6 +60,9 @@ class TestApart(unittest.TestCase):
         count = 0
         for seed, (library, slots, choice, history) in enumerate(self.found(3000, 400)):
             self.assertIs(is_apart(library, slots, history, choice), True)
+            tellings = [Keeper(library, slots, choice=some).do(*history) for some in (choice, plain(library))]
+            self.assertEqual([one == other for one, other in zip(*tellings)], [True] * (len(history) - 1) + [False])
+            self.assertNotEqual(passes(library, choice), [])
             calls = called_by(library, history)
             for other in range(5):
                 drawn_one = drawn.choice_of(100 * seed + other, library, 5)
@@ -104,6 +118,15 @@ class TestSafe(unittest.TestCase):
         for f in (3, 4):
             self.assertEqual(self.words(PAIR[:3] + ((0, 1, 2, f),), (0,), SAFE), ["apart"])
 
+    def test_a_safe_choice_and_its_neighbours(self):
+        turned = {(f, what): (word, history) for f, what, word, history in neighbours(PAIR, (0,), SAFE, 60)}
+        self.assertEqual({word for word, history in turned.values()}, {"safe", "apart"})
+        for f, what in ((3, ("plain",)), (4, ("plain",)), (3, ("clears", (0, 1)))):
+            some = SAFE[:f] + ((None if what == ("plain",) else ("thing", "shared", 0, 1, ((0, 1),))),) + SAFE[f + 1:]
+            word, history = turned.get((f, what))
+            self.assertEqual(word, compare(PAIR, (0,), some, 60)[0])
+            self.assertIs(history is not None and is_apart(PAIR, (0,), history, some), word == "apart")
+
     def test_the_neighbours_of_the_document(self):
         found = []
         for f in (3, 4):
@@ -129,3 +152,45 @@ class TestSafe(unittest.TestCase):
         answer = compare(COUNTER, (0,), (None, None, HELD), 60)
         self.assertEqual((answer[0], len(answer[1])), ("apart", 4))
         self.assertEqual(self.words(COUNTER, (0,), (None, None, ("thing", "shared", 0, 1, ((0, 0),))), limit=60), ["safe"])
+
+
+class TestPassing(unittest.TestCase):
+    def test_a_choice_that_passes_is_safe_for_all_slots_with_any_errors_sizes_and_more_clears(self):
+        words = {"safe": 0, "full": 0}
+        for seed in range(60):
+            library = drawn.library_of(seed)
+            kinds = range(len(library[1]))
+            draw = random.Random(f"more {seed}")
+            fields = [(kind, i) for kind in kinds for i in range(len(library[1][kind]))]
+            for choice in choices_that_pass(seed, library, 1):
+                other = tuple(some and some[:2] + (draw.randint(0, 1), draw.randint(1, 3), tuple(sorted(
+                    {*some[4], *[field for field in fields if draw.random() < 0.5]}))) for some in choice)
+                for slots in [()] + [(k,) for k in kinds] + [(k, m) for k in kinds for m in kinds]:
+                    for one in (choice, other):
+                        self.assertEqual(passes(library, one), [])
+                        words[compare(library, slots, one, 25)[0]] += 1
+        self.assertGreater(words["safe"], 100)
+
+
+class TestKeepers(unittest.TestCase):
+    def test_a_keeper_tells_and_counts_what_told_does(self):
+        for seed, (library, slots, choice) in enumerate(drawn.cases(7000, 100)):
+            history = drawn.history_of(seed, library, slots, 60)
+            tellings, hits = told(library, slots, history, choice)
+            keeper = Keeper(library, slots, choice=choice)
+            for at in range(0, len(history), 7):
+                some = history[at:at + 7]
+                self.assertEqual(trial(keeper, some)[0], tellings[at:at + 7])
+                other = keeper.on(some)
+                self.assertEqual(keeper.do(*some), tellings[at:at + 7])
+                self.assertEqual(sum(keeper.hits()), sum(hits[:at + 7]))
+                self.assertEqual((other == keeper, other.hits()), (True, keeper.hits()))
+
+    def test_one_at_a_world_goes_on_as_the_one_that_came_there(self):
+        for seed, (library, slots, choice) in enumerate(drawn.cases(7100, 100)):
+            history = drawn.history_of(seed, library, slots, 60)
+            tellings, hits = told(library, slots, history, choice)
+            for many in (3, 30):
+                keeper = Keeper.at(library, slots, choice, Keeper.of(library, slots, choice, history[:many]).world())
+                self.assertEqual(keeper.do(*history[many:]), tellings[many:])
+                self.assertEqual(sum(keeper.hits()), sum(hits[many:]))

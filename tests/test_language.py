@@ -16,8 +16,12 @@ METHODS = set("""append clear copy count endswith extend find get index insert i
 BARRED = set("""typing enum Enum namedtuple dataclass overload contextmanager abstractmethod ABC Protocol Generic register
     elements open input law mro eval exec compile globals locals vars dir id hash sys os""".split())
 MODULE_LEVEL = (ast.ImportFrom, ast.FunctionDef, ast.ClassDef, ast.Assign, ast.Expr)
-DUNDERS = ("__init__", "__eq__", "__repr__", "__str__", "__len__")
+DUNDERS = ("__init__", "__eq__", "__repr__", "__str__", "__len__", "__call__", "__contains__", "__getitem__", "__setitem__",
+           "__iter__", "__iadd__", "__enter__", "__exit__")
 DECORATORS = ("property", "staticmethod", "classmethod")
+# What is run by a sign, and changes nothing; so does what it calls.
+QUIET = ("__eq__", "__len__", "__contains__", "__getitem__", "__iter__")
+CHANGING = ("append", "clear", "extend", "insert", "pop", "remove", "reverse", "setdefault", "update", "sort")
 
 
 def nodes(kind):
@@ -33,6 +37,25 @@ def defined(tree):
             yield node.name
         if isinstance(node, ast.Assign):
             yield from (target.id for target in node.targets)
+
+
+def functions_by_name():
+    """All functions and methods of the package, by their names."""
+    found = {}
+    for path, node in nodes(ast.FunctionDef):
+        found.setdefault(node.name, []).append(node)
+    return found
+
+
+def decorators(node):
+    return [ast.unparse(decorator) for decorator in node.decorator_list]
+
+
+def called_by(node):
+    """The names of what a function calls, of the properties that it may read among them."""
+    for one in ast.walk(node):
+        if isinstance(one, ast.Call):
+            yield one.func.attr if isinstance(one.func, ast.Attribute) else one.func.id
 
 
 class TestLanguage(unittest.TestCase):
@@ -95,7 +118,8 @@ class TestLanguage(unittest.TestCase):
 
     def test_methods_and_attributes_have_different_names(self):
         own = {member.name for path, node in nodes(ast.ClassDef) for member in node.body
-               if isinstance(member, ast.FunctionDef)}
+               if isinstance(member, ast.FunctionDef) and "property" not in decorators(member)
+               and not any(word.endswith(".setter") for word in decorators(member))}
         for path, node in nodes(ast.Attribute):
             self.assertNotIn(node.attr, BARRED, path)
             if isinstance(node.ctx, ast.Store):
@@ -119,6 +143,49 @@ class TestLanguage(unittest.TestCase):
             last = [name for name, others in found.items() if not others & set(found)]
             self.assertTrue(last, found)
             found = {name: others for name, others in found.items() if name not in last}
+
+    def test_double_underscore_methods(self):
+        for path, node in nodes(ast.FunctionDef):
+            if node.name.startswith("__"):
+                self.assertIn(node.name, DUNDERS, path)
+                self.assertEqual(node.decorator_list, [])
+            if node.name == "__len__":
+                for one in ast.walk(node):
+                    if isinstance(one, ast.Return):
+                        self.assertEqual(ast.unparse(one.value.func), "len")
+            if node.name == "__iter__":
+                self.assertEqual([type(row) for row in node.body], [ast.Raise])
+            if node.name == "__exit__":
+                for row in node.body:
+                    self.assertIsInstance(row, ast.Assign)
+                    self.assertEqual([type(side) for side in row.targets + [row.value]], [ast.Attribute] * 2)
+
+    def test_what_is_run_by_a_sign_changes_nothing(self):
+        every = functions_by_name()
+        quiet = [node for name, some in every.items() for node in some if name in QUIET or "property" in decorators(node)]
+        self.assertEqual(len(quiet), 6)
+        at = 0
+        while at < len(quiet):
+            for one in ast.walk(quiet[at]):
+                self.assertNotIsInstance(one, (ast.AugAssign, ast.Delete, ast.Yield), quiet[at].name)
+                if isinstance(one, (ast.Attribute, ast.Subscript)):
+                    self.assertIsInstance(one.ctx, ast.Load, quiet[at].name)
+            for name in called_by(quiet[at]):
+                self.assertNotIn(name, CHANGING, quiet[at].name)
+                quiet += [node for node in every.get(name, []) if node not in quiet]
+            at += 1
+
+    def test_classes(self):
+        for path, node in nodes(ast.ClassDef):
+            self.assertEqual(node.decorator_list, [])
+            for row in node.body:
+                self.assertIsInstance(row, (ast.FunctionDef, ast.Expr), path)
+        # With "==" in the package nothing is sorted in place, and no error of Python's own is caught.
+        for path, node in nodes((ast.Try, ast.Match, ast.Set)):
+            self.fail(path)
+        for path, node in nodes(ast.Call):
+            if isinstance(node.func, ast.Attribute):
+                self.assertNotEqual(node.func.attr, "sort")
 
     def test_statements_and_expressions(self):
         barred = (ast.AsyncFunctionDef, ast.Div, ast.GeneratorExp, ast.Global, ast.Lambda)
